@@ -11,6 +11,13 @@ UP = 5
 ENTER = 6
 ITEM = 7
 LOOK = 8
+KEY = 9
+TEXT = 10
+SET = 11
+MAKE = 12
+PUT = 13
+APPEND = 14
+REMOVE = 15
 
 DONE = 0
 FAULT = -100
@@ -76,14 +83,40 @@ def answer_next(settings, numbers):
         return [DONE, settings.read(numbers.take_row())]
     if call == PRINT:
         return [DONE] + settings.printed()
-    if call == TOP:
-        return [DONE, settings.top()]
-    if call == UP:
-        return [DONE, settings.up()]
-    if call == ENTER:
-        return [DONE, settings.enter(numbers.take_row())]
-    if call == ITEM:
-        return [DONE, settings.item(numbers.take_number())]
     if call == LOOK:
         return [DONE] + settings.look()
+    if call == KEY:
+        return [DONE] + settings.key_here()
+    if call == TEXT:
+        return [DONE] + settings.text_here()
+    if call < LOOK:
+        return [DONE, answer_move(settings, numbers, call)]
+    return [DONE, answer_edit(settings, numbers, call)]
+
+
+def answer_move(settings, numbers, call):
+    """The number that a call answers which moves the cursor."""
+    if call == TOP:
+        return settings.top()
+    if call == UP:
+        return settings.up()
+    if call == ENTER:
+        return settings.enter(numbers.take_row())
+    if call == ITEM:
+        return settings.item(numbers.take_number())
+    raise UnknownCall()
+
+
+def answer_edit(settings, numbers, call):
+    """The number that an edit answers. Raises its refusal."""
+    if call == SET:
+        return settings.set_text(numbers.take_row())
+    if call == MAKE:
+        return settings.make(numbers.take_number())
+    if call == PUT:
+        return settings.put(numbers.take_row())
+    if call == APPEND:
+        return settings.append_item()
+    if call == REMOVE:
+        return settings.remove_here()
     raise UnknownCall()

@@ -4,15 +4,12 @@ from keyblocks.pieces import DASH_PIECE, EMPTY_LIST_PIECE, EMPTY_MAP_PIECE, FAUL
 from keyblocks.pieces import line_pieces
 from keyblocks.refusals import ReadFault
 from keyblocks.signs import LINE_FEED
-from keyblocks.tree import LIST, MAP, Value, new_map
+from keyblocks.tree import LIST, MAP, MOST_DEPTH, Value, new_map
 
 NO_FAULT = 0
 SAME_KEY_FAULT = 4
 COLUMN_FAULT = 5
 DEPTH_FAULT = 6
-
-# How many maps and lists may be within one another, those with something in them counted.
-MOST_NESTED = 32
 
 
 class Builder:
@@ -51,7 +48,7 @@ class Builder:
             self.newest.become_empty(MAP)
         elif piece.role == EMPTY_LIST_PIECE:
             self.newest.become_empty(LIST)
-        elif len(self.nested) == MOST_NESTED:
+        elif len(self.nested) > MOST_DEPTH:
             return DEPTH_FAULT
         else:
             self.newest.become_empty(nesting_kind(piece))
@@ -71,12 +68,11 @@ class Builder:
     def add_piece(self, piece):
         """Add an entry or item to the innermost map or list; its value is awaited."""
         around = self.nested[-1]
-        if piece.role == DASH_PIECE:
-            self.newest = around.add_member(None)
-        elif piece.content in around.by_key:
+        key = piece.content if piece.role == KEY_PIECE else None
+        if key in around.by_key:
             return SAME_KEY_FAULT
-        else:
-            self.newest = around.add_member(piece.content)
+        self.newest = Value(key)
+        around.add_member(self.newest)
         self.awaited = True
         return NO_FAULT
 

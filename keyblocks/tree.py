@@ -8,6 +8,9 @@ TEXT = 0
 MAP = 1
 LIST = 2
 
+# The greatest depth of a map or list that has something in it.
+MOST_DEPTH = 31
+
 
 class Value:
     """A text, a map or a list; new, it is the empty text.
@@ -18,6 +21,8 @@ class Value:
     def __init__(self, key):
         self.key = key
         self.written_key = None if key is None else written_form(key)
+        # Turns rise from the first member of a map or list to the last, so that one is found fast among many.
+        self.turn = 0
         self.become_text(())
 
     def become_text(self, content):
@@ -32,17 +37,35 @@ class Value:
         """Be the empty map or list. The key stays."""
         self.kind = kind
         self.content = ()
-        self.written = EMPTY_MAP_SIGNS if kind == MAP else EMPTY_LIST_SIGNS
+        self.written = empty_signs(kind)
         self.members = []
         self.by_key = {}
 
-    def add_member(self, key):
-        """The empty text added behind the others: under a new key of a map, with None to a list."""
-        member = Value(key)
+    def add_member(self, member):
+        """Add the member behind the others; in a map under its key, which is a new one there."""
+        if self.members:
+            member.turn = self.members[-1].turn + 1
         self.members.append(member)
-        if key is not None:
-            self.by_key[key] = member
-        return member
+        if member.key is not None:
+            self.by_key[member.key] = member
+
+    def drop_member(self, member):
+        """Take the member out; the others keep their order."""
+        self.members.pop(self.place_of(member))
+        if member.key is not None:
+            self.by_key.pop(member.key)
+
+    def place_of(self, member):
+        """Which one of the members it is, from 0."""
+        first = 0
+        last = len(self.members) - 1
+        while first < last:
+            middle = (first + last) // 2
+            if self.members[middle].turn < member.turn:
+                first = middle + 1
+            else:
+                last = middle
+        return first
 
     def size(self):
         """How many bytes, entries or items it has."""
@@ -54,6 +77,11 @@ def new_map():
     value = Value(None)
     value.become_empty(MAP)
     return value
+
+
+def empty_signs(kind):
+    """The bytes that an empty map or list is written with."""
+    return EMPTY_MAP_SIGNS if kind == MAP else EMPTY_LIST_SIGNS
 
 
 def written_form(content):

@@ -2,8 +2,8 @@
 
 from keyblocks.desk import answers
 from tests.helper import (
-    BEGIN, DONE, LIST, LOOK, MAP, NO, NONE, PRINT, TEXT, TOP, UP, YES,
-    Checks, enter, fault, flat, item, looked, printed, read)
+    APPEND, BEGIN, DONE, LAST_NUMBER, LIST, LOOK, MAP, NO, NONE, NOT_OF_THIS, PRINT, REMOVE, TELL_KEY, TELL_TEXT, TEXT,
+    TOP, UP, YES, Checks, enter, fault, flat, item, looked, make, printed, put, read, set_text)
 
 
 class Unchanged(list):
@@ -17,10 +17,14 @@ class Unchanged(list):
 
 
 MIXED = flat([
-    read(b"a: 1\nb:\n  - x\n  - {}\n"), PRINT, enter(b"b"), item(0), LOOK, read(b"a\nb"), UP, TOP, LOOK, BEGIN, PRINT])
+    read(b"a: 1\nb:\n  - x\n  - {}\n"), PRINT, enter(b"b"), item(0), LOOK, read(b"a\nb"), UP, TOP, LOOK, BEGIN, PRINT,
+    put(b"k "), TELL_KEY, TELL_TEXT, make(LIST), make(3), APPEND, set_text(b"t\n"), TELL_KEY, TELL_TEXT, PRINT, UP,
+    APPEND, put(b"x"), REMOVE, PRINT])
 MIXED_ANSWER = flat([
     DONE, printed(b"a: 1\nb:\n  - x\n  - {}\n"), YES, YES, looked(TEXT, 1, NONE, 2), fault(5, 2, 1), YES, DONE,
-    looked(MAP, 2, NONE, 0), DONE, printed(b"{}\n")])
+    looked(MAP, 2, NONE, 0), DONE, printed(b"{}\n"),
+    DONE, printed(b"k "), [1, 0], DONE, NOT_OF_THIS, DONE, DONE, NOT_OF_THIS, printed(b"t\n"),
+    printed(b'"k ":\n  - "t\\n"\n'), YES, DONE, NOT_OF_THIS, DONE, printed(b'"k ":\n  - "t\\n"\n')])
 
 
 class TestTheList(Checks):
@@ -59,6 +63,17 @@ class TestTheList(Checks):
     def test_each_list_has_a_new_object(self):
         self.check([read(b"a: b"), enter(b"a")], [DONE, YES])
         self.check([PRINT, LOOK], [printed(b"{}\n"), looked(MAP, 0, NONE, 0)])
+        self.check([put(b"a"), make(LIST), APPEND, set_text(b"b")], [DONE, DONE, DONE, DONE])
+        self.check([PRINT, LOOK, enter(b"a")], [printed(b"{}\n"), looked(MAP, 0, NONE, 0), NO])
+
+    def test_edits_change_nothing_for_later_lists(self):
+        edits = [read(b"a: {}\nb: []\nc: d"), item(0), put(b"k"), TOP, item(1), APPEND, TOP, item(2), set_text(b"e"),
+                 TOP, PRINT]
+        told = [DONE, YES, DONE, DONE, YES, DONE, DONE, YES, DONE, DONE,
+                printed(b'a:\n  k: ""\nb:\n  - ""\nc: e\n')]
+        self.check(edits, told)
+        self.check([read(b"a: {}\nb: []\nc: d"), PRINT], [DONE, printed(b"a: {}\nb: []\nc: d\n")])
+        self.check(edits, told)
 
     def test_a_changed_answer_changes_no_later_one(self):
         empty = answers(PRINT)
@@ -159,8 +174,6 @@ class TestEnter(Checks):
 
 
 class TestItem(Checks):
-    LAST_NUMBER = 4294967295
-
     def test_a_map(self):
         self.check(
             [read(b"a: 1\nbb: 22\nccc: 333"), item(0), LOOK, UP, item(2), LOOK, UP, item(1), LOOK],
@@ -175,17 +188,17 @@ class TestItem(Checks):
     def test_behind_the_last(self):
         for text, kind in ((b"a: 1\nb: 2", MAP), (b"- 1\n- 2", LIST)):
             self.check(
-                [read(text), item(2), item(3), item(self.LAST_NUMBER), LOOK],
+                [read(text), item(2), item(3), item(LAST_NUMBER), LOOK],
                 [DONE, NO, NO, NO, looked(kind, 2, NONE, 0)])
 
     def test_empty_ones(self):
         for text, kind in ((b"{}", MAP), (b"[]", LIST)):
             self.check(
-                [read(text), item(0), item(self.LAST_NUMBER), LOOK], [DONE, NO, NO, looked(kind, 0, NONE, 0)])
+                [read(text), item(0), item(LAST_NUMBER), LOOK], [DONE, NO, NO, looked(kind, 0, NONE, 0)])
 
     def test_a_text(self):
         self.check(
-            [read(b"abc"), item(0), item(1), item(self.LAST_NUMBER), LOOK],
+            [read(b"abc"), item(0), item(1), item(LAST_NUMBER), LOOK],
             [DONE, NO, NO, NO, looked(TEXT, 3, NONE, 0)])
 
     def test_the_order_is_that_of_the_text(self):

@@ -118,6 +118,16 @@ class TestLanguage(unittest.TestCase):
             elif not isinstance(node, ast.FunctionDef):
                 self.assertFalse(hasattr(builtins, word), place)
 
+    def test_locals_are_called_otherwise_than_classes_and_imports(self):
+        for path, tree in self.trees.items():
+            taken = {node.name for node in tree.body if isinstance(node, ast.ClassDef)}
+            taken |= {alias.name for node in tree.body if isinstance(node, ast.ImportFrom) for alias in node.names}
+            for node in ast.walk(tree):
+                if isinstance(node, ast.arg):
+                    self.assertNotIn(node.arg, taken, (path.name, node.lineno))
+                elif isinstance(node, ast.Name) and isinstance(node.ctx, ast.Store):
+                    self.assertNotIn(node.id, taken, (path.name, node.lineno))
+
     def test_is_stands_beside_none_alone(self):
         for name, node in self.nodes(ast.Compare):
             for operator, right in zip(node.ops, node.comparators):

@@ -1,23 +1,8 @@
 """How much may be read and printed, and long lists of calls."""
 
 from tests.helper import (
-    DONE, LIST, LOOK, MAP, NO, NONE, PRINT, TEXT, TOO_LARGE, TOP, UP, YES,
-    Checks, enter, fault, item, looked, printed, read)
-
-MOST_PRINTED = 262144
-MOST_READ = 65536
-MOST_HANDED_OVER = 29000
-
-# Thirty-two lists within one another, and their printed form.
-DEEP = b"- " * 31 + b"-\n"
-DEEP_FORM = b"".join(b"  " * depth + b"-\n" for depth in range(31)) + b"  " * 31 + b'- ""\n'
-
-
-def large(size):
-    """A text, and its printed form of that size."""
-    count = (size - 3) // len(DEEP_FORM)
-    last = b"- " + b"x" * (size - 3 - count * len(DEEP_FORM)) + b"\n"
-    return DEEP * count + last, DEEP_FORM * count + last
+    DEEP, DONE, LIST, LOOK, MAP, MOST_HANDED_OVER, MOST_PRINTED, MOST_TAKEN, NO, NONE, PRINT, TEXT, TOO_LARGE, TOP, UP,
+    YES, Checks, enter, fault, item, large, looked, printed, read)
 
 
 class TestTooLarge(Checks):
@@ -51,9 +36,9 @@ class TestTooLarge(Checks):
 
     def test_more_than_may_be_read(self):
         # No list of calls is so long; the limit is one of the object's own.
-        self.check([read(b"#" * MOST_READ), PRINT], [DONE, printed(b"{}\n")])
-        self.check_keeps(b"#" * (MOST_READ + 1), TOO_LARGE)
-        self.check_keeps(b"\t" * (MOST_READ + 1), TOO_LARGE)
+        self.check([read(b"#" * MOST_TAKEN), PRINT], [DONE, printed(b"{}\n")])
+        self.check_keeps(b"#" * (MOST_TAKEN + 1), TOO_LARGE)
+        self.check_keeps(b"\t" * (MOST_TAKEN + 1), TOO_LARGE)
 
 
 class TestLongTexts(Checks):

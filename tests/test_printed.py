@@ -2,39 +2,14 @@
 
 import random
 
-from keyblocks.desk import answers
 from tests.helper import (
-    DONE, LIST, LOOK, MAP, NO, NONE, PRINT, TEXT, UP, YES, Checks, enter, fault, item, looked, printed, read)
-
-# Bytes as they are, and as they're written.
-WRITTEN = (
-    (b"", b'""'), (b" ", b'" "'), (b" a", b'" a"'), (b"a ", b'"a "'), (b"a b", b"a b"), (b"- a", b'"- a"'),
-    (b"-", b'"-"'), (b"- ", b'"- "'), (b"-a", b"-a"), (b"--", b"--"), (b"a -", b"a -"), (b"a: b", b'"a: b"'),
-    (b"a:b", b"a:b"), (b"a:", b'"a:"'), (b":", b'":"'), (b": a", b'": a"'), (b":a", b":a"), (b"::", b'"::"'),
-    (b"a :", b'"a :"'), (b"a #b", b'"a #b"'), (b"a #", b'"a #"'), (b"a#b", b"a#b"), (b"a# b", b"a# b"),
-    (b"#", b'"#"'), (b"#a", b'"#a"'), (b"a:#", b"a:#"), (b"a #: b", b'"a #: b"'), (b"{}", b'"{}"'),
-    (b"[]", b'"[]"'), (b"{}a", b"{}a"), (b"{", b"{"), (b"]", b"]"), (b"{} ", b'"{} "'), (b'"', b'"\\""'),
-    (b'""', b'"\\"\\""'), (b'"a"', b'"\\"a\\""'), (b'a"b', b'a"b'), (b"a\\b", b"a\\b"), (b"\\", b"\\"),
-    (b" \\", b'" \\\\"'), (b"a\\n", b"a\\n"), (b"a\nb", b'"a\\nb"'), (b"\n", b'"\\n"'), (b"a\n", b'"a\\n"'),
-    (b"a\tb", b'"a\\tb"'), (b"\r\n", b'"\\x0d\\n"'), (b"\x7f", b'"\\x7f"'), (b"\x1f\x1b", b'"\\x1f\\x1b"'),
-    (b"\0", b'"\\x00"'), (b"\x80\xff", b"\x80\xff"), (b"\xff\n", b'"\xff\\n"'), (b"'", b"'"),
-    (b"\xc3\xa4 #", b'"\xc3\xa4 #"'),
-    (b'"\\\n\t\x0b', b'"\\"\\\\\\n\\t\\x0b"'), (b"a:\nb", b'"a:\\nb"'))
+    DONE, LOOK, NONE, PRINT, TEXT, WRITTEN, YES,
+    Checks, enter, fault, form_lines, form_of, looked, printed, read, some_tree, walk, written_byte)
 
 
 def escaped(content):
     """The bytes in quotes, each by its two hexadecimal digits: one way of writing that fits all."""
     return b'"' + b"".join(b"\\x%02x" % byte for byte in content) + b'"'
-
-
-def written_byte(byte):
-    """A byte as it stands within quotes."""
-    short = {34: b'\\"', 92: b"\\\\", 10: b"\\n", 9: b"\\t"}
-    if byte in short:
-        return short[byte]
-    if byte < 32 or byte == 127:
-        return b"\\x%02x" % byte
-    return bytes([byte])
 
 
 class TestKinds(Checks):
@@ -95,55 +70,14 @@ class TestWords(Checks):
 
     def test_the_same_tree_has_one_form(self):
         for text in (
-                b"a b:\n  - c\n  - {}", b'"a b" :\n          - "c"\n          - {} # d', b"# x\n\na b  :  #\n - c\n -  {}\n",
-                b'"\\x61\\x20b":\n\n -\n   "\\x63"\n -\n  {}'):
+                b"a b:\n  - c\n  - {}", b'"a b" :\n          - "c"\n          - {} # d',
+                b"# x\n\na b  :  #\n - c\n -  {}\n", b'"\\x61\\x20b":\n\n -\n   "\\x63"\n -\n  {}'):
             self.check_reads(text, b"a b:\n  - c\n  - {}\n")
 
 
-def shown(tree, depth):
-    """The printed form of a tree of bytes, dicts and lists, with every word escaped byte by byte."""
-    if isinstance(tree, bytes):
-        return escaped(tree) + b"\n"
-    if not tree:
-        return b"{}\n" if isinstance(tree, dict) else b"[]\n"
-    lines = b""
-    for entry in tree.items() if isinstance(tree, dict) else [(None, value) for value in tree]:
-        head = b"-" if entry[0] is None else escaped(entry[0]) + b":"
-        below = bool(entry[1]) and not isinstance(entry[1], bytes)
-        lines += b"  " * depth + head + (b"\n" if below else b" ") + shown(entry[1], depth + 1)
-    return lines
-
-
-def some_bytes(source):
-    if source.random() < 0.3:
-        return source.choice(WRITTEN)[0]
-    return bytes(source.choice(b' ab:-#"\\{}[]x41\n\t\0\x7f\x80\xff') for place in range(source.randrange(6)))
-
-
-def some_tree(source, depth):
-    kind = source.randrange(4) if depth < 6 else 0
-    if kind == 0:
-        return some_bytes(source)
-    count = source.randrange(5)
-    if kind == 1:
-        return [some_tree(source, depth + 1) for place in range(count)]
-    return {some_bytes(source): some_tree(source, depth + 1) for place in range(count)}
-
-
-def walk(tree, key_length, depth):
-    """Calls that go through the whole tree below the cursor and look at every value, and their answers."""
-    kind = TEXT if isinstance(tree, bytes) else MAP if isinstance(tree, dict) else LIST
-    calls = [LOOK]
-    told = [looked(kind, len(tree), key_length, depth)]
-    if kind == TEXT:
-        return calls, told
-    steps = [(enter(key), len(key), value) for key, value in tree.items()] if kind == MAP else [
-        (item(index), NONE, value) for index, value in enumerate(tree)]
-    for index, (step, length, value) in enumerate(steps):
-        below = walk(value, length, depth + 1)
-        calls += [item(index), UP, step, *below[0], UP]
-        told += [YES, YES, YES, *below[1], YES]
-    return calls + [item(len(tree))], told + [NO]
+def shown(tree):
+    """The printed form of a tree of bytes, dicts and lists, but every word escaped byte by byte."""
+    return b"".join(form_lines(tree, 0, escaped))
 
 
 class TestReadBack(Checks):
@@ -162,11 +96,9 @@ class TestReadBack(Checks):
 
     def check_same_again(self, tree):
         """The tree is read as it is, and what is printed of it is read as the same tree and printed the same."""
-        given = answers([*read(shown(tree, 0)), *PRINT])
-        self.assertEqual(given[:3], DONE)
-        form = bytes(given[5:])
-        calls, told = walk(tree, NONE, 0)
-        self.check([read(shown(tree, 0)), *calls], [DONE, *told])
+        form = form_of(tree)
+        calls, told = walk(tree, None, 0)
+        self.check([read(shown(tree)), *calls, PRINT], [DONE, *told, printed(form)])
         self.check([read(form), *calls, PRINT], [DONE, *told, printed(form)])
 
     def test_texts_are_the_same_bytes(self):
